@@ -207,7 +207,7 @@ func TestF1DecodeErrorsInOrder(t *testing.T) {
 	wantDecode(t, "\x02\x03\x02\x02\x01'", nil, api.ErrRange)
 }
 
-// All short strings of bytes: these alone are of values.
+// All strings of at most three bytes: these alone are of values.
 func TestF1DecodeAllShort(t *testing.T) {
 	right := []string{"\x00", "\x01\x00", "\x01\x02\x00", "\x01\x03\x00", "\x01\x03\x01", "\x02\x00\x00"}
 	var got []string
@@ -227,13 +227,12 @@ func TestF1DecodeAllShort(t *testing.T) {
 	}
 }
 
-// next string of as many bytes; the first one goes to 8 only, for there are many.
+// next string of as many bytes; false behind the last one.
 func next(b []byte) bool {
-	for i, c := range slices.Backward(b) {
-		if b[i]++; b[i] != 0 && (i > 0 || c < 8) {
+	for i := range slices.Backward(b) {
+		if b[i]++; b[i] != 0 {
 			return true
 		}
-		b[i] = 0
 	}
 	return false
 }
