@@ -5,6 +5,7 @@ import (
 
 	"overhaul/api"
 	"overhaul/delta"
+	"overhaul/entries"
 	"overhaul/fit"
 	"overhaul/words"
 )
@@ -102,7 +103,7 @@ func indexesFault(t api.Table) api.Errno {
 		if x.Built < 1 || x.Built > t.Next {
 			return api.ErrRange
 		}
-		if !slices.Equal(x.Entries, entries(t, rows, x)) {
+		if !slices.Equal(x.Entries, entries.Of(t, rows, x)) {
 			return api.ErrState
 		}
 	}
