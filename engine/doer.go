@@ -5,6 +5,7 @@ import (
 
 	"overhaul/api"
 	"overhaul/fresh"
+	"overhaul/named"
 	"overhaul/table"
 )
 
@@ -33,7 +34,7 @@ func (d *doer) do(c api.Cmd) api.Errno {
 
 func (d *doer) create(c api.Cmd) api.Errno {
 	switch {
-	case tableAt(d.Tables, c.Name) >= 0:
+	case named.Table(d.Tables, c.Name) >= 0:
 		return api.ErrTwice
 	case len(d.Tables) == api.MaxTables:
 		return api.ErrMany
@@ -47,7 +48,7 @@ func (d *doer) create(c api.Cmd) api.Errno {
 func (d *doer) unindex(name string) api.Errno {
 	for i := range d.Tables {
 		t := &d.Tables[i]
-		if at := indexAt(t.Indexes, name); at >= 0 {
+		if at := named.Index(t.Indexes, name); at >= 0 {
 			t.Indexes = slices.Delete(t.Indexes, at, at+1)
 			return api.OK
 		}
@@ -79,7 +80,7 @@ func (d *doer) end(kind int) api.Errno {
 
 // inTable: what a command does that names a table.
 func (d *doer) inTable(name string, c api.Cmd) api.Errno {
-	at := tableAt(d.Tables, name)
+	at := named.Table(d.Tables, name)
 	if at < 0 {
 		return api.ErrNone
 	}
@@ -104,7 +105,7 @@ func (d *doer) inTable(name string, c api.Cmd) api.Errno {
 
 // inColumn: what a command does that names a column that must be there.
 func (d *doer) inColumn(t *api.Table, c api.Cmd) api.Errno {
-	at := columnAt(t.Columns, c.Column)
+	at := named.Column(t.Columns, c.Column)
 	if at < 0 {
 		return api.ErrNone
 	}
@@ -122,7 +123,7 @@ func (d *doer) inColumn(t *api.Table, c api.Cmd) api.Errno {
 }
 
 func (d *doer) rename(t *api.Table, name string) api.Errno {
-	if name != t.Name && tableAt(d.Tables, name) >= 0 {
+	if name != t.Name && named.Table(d.Tables, name) >= 0 {
 		return api.ErrTwice
 	}
 	t.Name = name
@@ -130,7 +131,7 @@ func (d *doer) rename(t *api.Table, name string) api.Errno {
 }
 
 func renameColumn(t *api.Table, at int, name string) api.Errno {
-	if name != t.Columns[at].Name && columnAt(t.Columns, name) >= 0 {
+	if name != t.Columns[at].Name && named.Column(t.Columns, name) >= 0 {
 		return api.ErrTwice
 	}
 	t.Columns[at].Name = name
@@ -140,7 +141,7 @@ func renameColumn(t *api.Table, at int, name string) api.Errno {
 func (d *doer) index(t *api.Table, at int, name string) api.Errno {
 	all := indexesOf(d.Tables)
 	switch {
-	case indexAt(all, name) >= 0:
+	case named.Index(all, name) >= 0:
 		return api.ErrTwice
 	case len(all) == api.MaxIndexes:
 		return api.ErrMany
@@ -152,19 +153,4 @@ func (d *doer) index(t *api.Table, at int, name string) api.Errno {
 func alter(t *api.Table, d api.Delta, name string) (f api.Errno) {
 	*t, f = table.Alter(*t, d, name)
 	return f
-}
-
-// tableAt: place of the table with a name; below 0, if there is none.
-func tableAt(l []api.Table, name string) int {
-	return slices.IndexFunc(l, func(t api.Table) bool { return t.Name == name })
-}
-
-// columnAt: likewise of columns.
-func columnAt(l []api.Column, name string) int {
-	return slices.IndexFunc(l, func(c api.Column) bool { return c.Name == name })
-}
-
-// indexAt: likewise of indexes.
-func indexAt(l []api.Index, name string) int {
-	return slices.IndexFunc(l, func(x api.Index) bool { return x.Name == name })
 }

@@ -5,6 +5,7 @@ import (
 
 	"overhaul/api"
 	"overhaul/expr"
+	"overhaul/named"
 	"overhaul/table"
 	"overhaul/value"
 )
@@ -50,7 +51,7 @@ func (d *doer) choose(t api.Table, c api.Cmd) api.Errno {
 	if slices.Contains(fields, -1) {
 		return api.ErrNone
 	}
-	order := columnAt(t.Columns, c.Order)
+	order := named.Column(t.Columns, c.Order)
 	if c.Order != "" && order < 0 {
 		return api.ErrNone
 	}
@@ -92,7 +93,7 @@ func found(t api.Table, c api.Cmd) ([]int, [][]api.Value) {
 func fieldsAt(l []api.Column, names []string) []int {
 	var places []int
 	for _, name := range names {
-		places = append(places, columnAt(l, name))
+		places = append(places, named.Column(l, name))
 	}
 	if len(names) == 0 {
 		for i := range l {

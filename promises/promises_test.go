@@ -12,7 +12,9 @@ import (
 	"overhaul/command"
 	"overhaul/engine"
 	"overhaul/index"
+	"overhaul/plan"
 	"overhaul/table"
+	"overhaul/tick"
 )
 
 // texts of commands of all kinds, one behind the other; some have errors.
@@ -108,6 +110,30 @@ func TestP1P2P3OfEngines(t *testing.T) {
 			wantAll(t, call{s, engine.Do, []any{e, parsed(t, s)}})
 		}
 		wantAll(t, call{"Do", engine.Do, []any{e, api.Cmd{}}})
+	}
+}
+
+func TestP1P2P3OfWays(t *testing.T) {
+	for _, e := range engines(t) {
+		for _, s := range append(texts(), "select * from bird where (legs = 3)", "delete from bird where ((name < 'x') and (false = seen))", "update bird set legs = 1 where (legs = 2)") {
+			wantAll(t, call{s, plan.Explain, []any{e, parsed(t, s)}})
+			wantAll(t, call{s, plan.Rows, []any{e, parsed(t, s)}})
+		}
+		wantAll(t, call{"Explain", plan.Explain, []any{e, api.Cmd{}}})
+		wantAll(t, call{"Rows", plan.Rows, []any{e, api.Cmd{}}})
+	}
+}
+
+func TestP1P2P3OfTheBackground(t *testing.T) {
+	for _, e := range engines(t) {
+		wantAll(t, call{"Clean", tick.Clean, []any{e}})
+		for is := true; is; {
+			wantAll(t, call{"Tick", tick.Tick, []any{e}})
+			e, is, _ = tick.Tick(e)
+		}
+		e.Tables = make([]api.Table, 1)
+		wantAll(t, call{"Tick", tick.Tick, []any{e}})
+		wantAll(t, call{"Clean", tick.Clean, []any{e}})
 	}
 }
 
@@ -227,6 +253,70 @@ func TestP1JunkOfEngines(t *testing.T) {
 	}
 }
 
+// What is wrong with the engine tells first, then what is wrong with the command, then of which kind it is, then its answer.
+func TestP1JunkOfWays(t *testing.T) {
+	r := rand.New(rand.NewSource(3))
+	seen := map[api.Errno]int{}
+	rows := 0
+	for _, e := range engines(t) {
+		for _, s := range append(texts(), "select * from bird where (legs = 3)", "delete from bird where ((name < 'x') and (false = seen))") {
+			for range 10 {
+				e, c := e, parsed(t, s)
+				if r.Intn(3) == 0 {
+					e = junked(r, e)
+				}
+				if r.Intn(3) > 0 {
+					c = junked(r, c)
+				}
+				_, a, want := engine.Do(e, c)
+				if want == api.OK && c.Kind != api.CmdDelete && c.Kind != api.CmdUpdate && c.Kind != api.CmdSelect {
+					want = api.ErrKind
+				}
+				if want == api.OK {
+					want = a.Errno
+				}
+				p, f := plan.Explain(e, c)
+				l, g := plan.Rows(e, c)
+				seen[f]++
+				rows += len(l)
+				if f != want || g != want || want != api.OK && (p != (api.Plan{}) || len(l) > 0) {
+					t.Fatalf("%+v of %+v: they are %q, %d, %v, %d; want %d", c, e, p, f, l, g, want)
+				}
+			}
+		}
+	}
+	if len(seen) < 8 || seen[api.OK] < 300 || rows < 300 {
+		t.Errorf("too little was tried: %v, %d", seen, rows)
+	}
+}
+
+// What is wrong with the engine is all that is told; of one that may be so, however it came about, ticks have an end, and what comes is right, and clean.
+func TestP1JunkOfTheBackground(t *testing.T) {
+	r := rand.New(rand.NewSource(4))
+	seen := map[api.Errno]int{}
+	for _, e := range engines(t) {
+		for range 100 {
+			e := junked(r, e)
+			want := engine.Check(e)
+			seen[want]++
+			got, is, f := tick.Tick(e)
+			clean, many, g := tick.Clean(e)
+			if f != want || g != want || want != api.OK && (is || many > 0 || !isEmpty(reflect.ValueOf(got)) || !isEmpty(reflect.ValueOf(clean))) {
+				t.Fatalf("of %+v it is %+v, %v, %d, and %+v, %d, %d; want %d", e, got, is, f, clean, many, g, want)
+			}
+			if engine.Check(got) != api.OK || engine.Check(clean) != api.OK || many > 100 || is != (many > 0) {
+				t.Fatalf("of %+v it is %+v, %v, and %+v, %d", e, got, is, clean, many)
+			}
+			if again, is, _ := tick.Tick(clean); is || !same(reflect.ValueOf(again), reflect.ValueOf(clean)) {
+				t.Fatalf("it is %+v, %v", again, is)
+			}
+		}
+	}
+	if len(seen) < 8 || seen[api.OK] < 100 {
+		t.Errorf("too little was tried: %v", seen)
+	}
+}
+
 // nested: so many parts, each in the one ahead.
 func nested(depth int) api.Expr {
 	e := api.Expr{Kind: api.ExprValue}
@@ -271,6 +361,19 @@ func TestP4Much(t *testing.T) {
 		got, a, f := engine.Do(c.e, c.c)
 		if f != c.want || !isEmpty(reflect.ValueOf(got)) || !isEmpty(reflect.ValueOf(a)) {
 			t.Errorf("%d: it is %d; want %d", i, f, c.want)
+		}
+		p, f := plan.Explain(c.e, c.c)
+		l, g := plan.Rows(c.e, c.c)
+		if f != c.want || g != c.want || p != (api.Plan{}) || len(l) > 0 {
+			t.Errorf("%d: they are %d, %d; want %d", i, f, g, c.want)
+		}
+		if engine.Check(c.e) == api.OK {
+			continue
+		}
+		_, _, f = tick.Tick(c.e)
+		_, _, g = tick.Clean(c.e)
+		if f != c.want || g != c.want {
+			t.Errorf("%d: they are %d, %d; want %d", i, f, g, c.want)
 		}
 	}
 }

@@ -7,6 +7,7 @@ import (
 	"overhaul/delta"
 	"overhaul/entries"
 	"overhaul/fit"
+	"overhaul/named"
 	"overhaul/words"
 )
 
@@ -29,7 +30,7 @@ func columnsFault(t api.Table) api.Errno {
 		if words.OfType(c.Type) == "" {
 			return api.ErrKind
 		}
-		if hasColumn(t.Columns[:i], c.Name) {
+		if named.Column(t.Columns[:i], c.Name) >= 0 {
 			return api.ErrTwice
 		}
 	}
@@ -94,7 +95,7 @@ func indexesFault(t api.Table) api.Errno {
 		if !words.IsName(x.Name) {
 			return api.ErrForm
 		}
-		if slices.ContainsFunc(t.Indexes[:i], func(ahead api.Index) bool { return ahead.Name == x.Name }) {
+		if named.Index(t.Indexes[:i], x.Name) >= 0 {
 			return api.ErrTwice
 		}
 		if !isColumn(t, x.At) {
@@ -178,7 +179,7 @@ func addFault(t api.Table, d api.Delta, name string) api.Errno {
 	if !words.IsName(name) {
 		return api.ErrForm
 	}
-	if hasColumn(t.Columns, name) {
+	if named.Column(t.Columns, name) >= 0 {
 		return api.ErrTwice
 	}
 	if words.OfType(d.Type) == "" || !fit.Kind(d.Value.Kind, d.Type) {
@@ -188,10 +189,6 @@ func addFault(t api.Table, d api.Delta, name string) api.Errno {
 }
 
 func isColumn(t api.Table, at int) bool { return at >= 0 && at < len(t.Columns) }
-
-func hasColumn(l []api.Column, name string) bool {
-	return slices.ContainsFunc(l, func(c api.Column) bool { return c.Name == name })
-}
 
 // rise: is each number more than the one ahead?
 func rise(numbers []int) bool {
