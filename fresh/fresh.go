@@ -34,3 +34,8 @@ func Table(t api.Table) api.Table {
 	}
 	return t
 }
+
+// Disk like this one.
+func Disk(d api.Disk) api.Disk {
+	return api.Disk{Kept: slices.Clone(d.Kept), Written: slices.Clone(d.Written)}
+}

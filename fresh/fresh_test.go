@@ -60,3 +60,21 @@ func TestP2AnEngineIsNewMemory(t *testing.T) {
 		t.Errorf("it is %+v", got)
 	}
 }
+
+func TestP2ADiskIsNewMemory(t *testing.T) {
+	disk := func() api.Disk {
+		return api.Disk{Kept: []string{"a", "b"}, Written: []api.Written{{Sector: 1, Bytes: "c"}}}
+	}
+	was := disk()
+	got := Disk(was)
+	if !reflect.DeepEqual(got, disk()) {
+		t.Errorf("it is %+v", got)
+	}
+	got.Kept[0], got.Written[0] = "spoilt", api.Written{Sector: 9, Bytes: "spoilt"}
+	if !reflect.DeepEqual(was, disk()) {
+		t.Errorf("it is %+v", was)
+	}
+	if got := Disk(api.Disk{}); len(got.Kept)+len(got.Written) > 0 {
+		t.Errorf("it is %+v", got)
+	}
+}

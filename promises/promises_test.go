@@ -1,4 +1,4 @@
-// Package promises: tests of the promises for all chapters (P1 to P4), of all calls from indexes on.
+// Package promises: tests of the promises for all chapters (P1 to P4), of all calls.
 package promises
 
 import (
